@@ -1,0 +1,1 @@
+"""Stepping stones: how people get over a river with dry feet."""
