@@ -10,9 +10,13 @@ NARROWEST = 2
 FEWEST = 3
 PLAN = 4
 GO = 5
+CROSS = 6
+LAY = 7
+MEND = 8
+DO = 9
 
 # How many whole numbers stand behind a call's own number, ahead of its row.
-NUMBERS_OF_CALL = (0, 1, 1, 1, 2, 1)
+NUMBERS_OF_CALL = (0, 1, 1, 1, 2, 1, 2, 2, 2, 2, 0)
 
 MOST_PLACES = 11
 MOST_BORNE = 5
@@ -31,6 +35,9 @@ class River:
 
     def __init__(self):
         self.bears = []
+        self.people = 0
+        self.steps = 0
+        self.laid = 0
 
 
 def leap_fits(leap):
@@ -59,6 +66,9 @@ def begin(river, bears):
     if len(bears) < 1 or len(bears) > MOST_PLACES or max(bears) > MOST_BORNE:
         return [DOES_NOT_FIT]
     river.bears = list(bears)
+    river.people = 0
+    river.steps = 0
+    river.laid = 0
     return [0]
 
 
@@ -158,15 +168,91 @@ def first_hindrance(bears, leap, path):
     return []
 
 
+def get_over(river, path):
+    for place in path:
+        river.bears[place - 1] = river.bears[place - 1] - 1
+    river.people = river.people + 1
+    river.steps = river.steps + len(path)
+
+
 def go(river, leap, path):
     if not leap_fits(leap) or not rises_between_banks(river.bears, path):
         return [DOES_NOT_FIT]
     hindrance = first_hindrance(river.bears, leap, path)
     if len(hindrance) > 0:
         return hindrance
-    for place in path:
-        river.bears[place - 1] = river.bears[place - 1] - 1
+    get_over(river, path)
     return [len(path)]
+
+
+def cross(river, leap, people):
+    if not leap_fits(leap) or not people_fit(people):
+        return [DOES_NOT_FIT]
+    if not can_get_over(river.bears, leap, people):
+        return [BEARS_TOO_LITTLE]
+    paths = planned_paths(river.bears, leap, people)
+    for path in paths:
+        get_over(river, path)
+    return [sum([len(path) for path in paths])]
+
+
+def lay_on(river, place, steps):
+    river.bears[place - 1] = river.bears[place - 1] + steps
+    river.laid = river.laid + steps
+
+
+def lay(river, place, steps):
+    if place < 1 or place >= far_bank(river.bears) or steps == 0:
+        return [DOES_NOT_FIT]
+    if river.bears[place - 1] + steps > MOST_BORNE:
+        return [DOES_NOT_FIT]
+    lay_on(river, place, steps)
+    return [river.bears[place - 1]]
+
+
+def could_be_mended(bears, leap, people):
+    return can_get_over([MOST_BORNE] * len(bears), leap, people)
+
+
+def borne_when_mended(bears, leap, people):
+    """What each place bears with what is laid for the people; it must be possible to mend for so many."""
+    borne = list(bears)
+    for last in range(leap, far_bank(bears)):
+        missing = people - sum(borne[last - leap:last])
+        place = last
+        while missing > 0:
+            more = min(missing, MOST_BORNE - borne[place - 1])
+            borne[place - 1] = borne[place - 1] + more
+            missing = missing - more
+            place = place - 1
+    return borne
+
+
+def laid_for(bears, leap, people):
+    """How many steps are laid at each place for the people; it must be possible to mend for so many."""
+    return [then - now for then, now in zip(borne_when_mended(bears, leap, people), bears)]
+
+
+def mend(river, leap, people):
+    if not leap_fits(leap) or not people_fit(people):
+        return [DOES_NOT_FIT]
+    if not could_be_mended(river.bears, leap, people):
+        return [BEARS_TOO_LITTLE]
+    laid = laid_for(river.bears, leap, people)
+    return [sum(laid)] + laid
+
+
+def do(river, leap, people):
+    told = mend(river, leap, people)
+    if told[0] < 0:
+        return told
+    for place, steps in enumerate(told[1:], start=1):
+        lay_on(river, place, steps)
+    return [told[0]]
+
+
+def look(river):
+    return [river.people, river.steps, river.laid, len(river.bears)] + river.bears
 
 
 def answer_of(river, call, numbers, row):
@@ -182,7 +268,17 @@ def answer_of(river, call, numbers, row):
         return fewest(river, numbers[0])
     if call == PLAN:
         return plan(river, numbers[0], numbers[1])
-    return go(river, numbers[0], row)
+    if call == GO:
+        return go(river, numbers[0], row)
+    if call == CROSS:
+        return cross(river, numbers[0], numbers[1])
+    if call == LAY:
+        return lay(river, numbers[0], numbers[1])
+    if call == MEND:
+        return mend(river, numbers[0], numbers[1])
+    if call == DO:
+        return do(river, numbers[0], numbers[1])
+    return look(river)
 
 
 def answers(calls):

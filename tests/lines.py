@@ -27,6 +27,26 @@ def go(leap, path):
     return [5, leap, len(path)] + list(path)
 
 
+def cross(leap, people):
+    return [6, leap, people]
+
+
+def lay(place, steps):
+    return [7, place, steps]
+
+
+def mend(leap, people):
+    return [8, leap, people]
+
+
+def do(leap, people):
+    return [9, leap, people]
+
+
+def look():
+    return [10]
+
+
 def line_of(calls):
     return [number for call in calls for number in call]
 
@@ -55,6 +75,16 @@ def told(*calls):
 def on(bears, call):
     """What one call answers on a river that bears this."""
     return told(begin(bears), call)[1]
+
+
+def looked(*calls):
+    """What look tells behind these calls."""
+    return told(*calls, look())[-1]
+
+
+def left(*calls):
+    """What each place bears behind these calls."""
+    return looked(*calls)[4:]
 
 
 def look_round():

@@ -2,7 +2,9 @@
 
 import unittest
 
-from lines import begin, fewest, go, look_round, most, narrowest, on, plan, seen, told
+from lines import (
+    begin, cross, do, fewest, go, lay, look, look_round, looked, mend, most, narrowest, on, plan, seen, told
+)
 
 
 class Begin(unittest.TestCase):
@@ -38,14 +40,21 @@ class Begin(unittest.TestCase):
     def test_a_refused_begin_leaves_the_river_as_it_was(self):
         for wrong in ([], [1] * 12, [6], [0, 0, 9]):
             self.assertEqual(seen(begin([2, 1, 3]), begin(wrong)), seen(begin([2, 1, 3])))
+            self.assertEqual(looked(begin([2, 1, 3]), begin(wrong)), [0, 0, 0, 3, 2, 1, 3])
             self.assertEqual(
                 seen(begin([2, 1, 3]), go(2, [1, 3]), begin(wrong)), seen(begin([1, 1, 2]))
             )
 
 
 class NoRiver(unittest.TestCase):
-    calls = [most(2), narrowest(2), fewest(2), plan(2, 1), go(2, [1, 2]), go(2, [])]
-    wrong = [most(0), narrowest(13), fewest(20), plan(0, 1), plan(1, 0), go(0, []), go(2, [2, 1])]
+    calls = [
+        most(2), narrowest(2), fewest(2), plan(2, 1), go(2, [1, 2]), go(2, []),
+        cross(2, 1), lay(1, 1), mend(2, 1), do(2, 1), look(),
+    ]
+    wrong = [
+        most(0), narrowest(13), fewest(20), plan(0, 1), plan(1, 0), go(0, []), go(2, [2, 1]),
+        cross(0, 1), cross(1, 0), lay(0, 1), lay(1, 0), lay(1, 9), mend(13, 1), mend(1, 21), do(20, 1), do(1, 40),
+    ]
 
     def test_each_call_without_a_river_answers_9(self):
         for call in self.calls:
@@ -63,8 +72,13 @@ class NoRiver(unittest.TestCase):
     def test_the_river_is_there_from_its_begin_on(self):
         calls = self.calls + [begin([1, 1])] + self.calls
         answered = told(*calls)
-        self.assertEqual(answered[:6], [[-9]] * 6)
-        self.assertEqual(answered[6:], [[0], [2], [2, 1], [1, 2], [1, 1], [2], [-7, 3]])
+        self.assertEqual(answered[:11], [[-9]] * 11)
+        self.assertEqual(answered[11:18], [[0], [2], [2, 1], [1, 2], [1, 1], [2], [-7, 3]])
+        self.assertEqual(answered[18:], [[-6], [1], [0, 0, 0], [0], [1, 2, 1, 2, 1, 0]])
+
+    def test_what_was_asked_without_a_river_leaves_no_trace(self):
+        self.assertEqual(looked(*self.calls, begin([1, 1])), [0, 0, 0, 2, 1, 1])
+        self.assertEqual(looked(begin([6]), *self.calls, begin([1, 1])), [0, 0, 0, 2, 1, 1])
 
     def test_a_river_of_another_line_is_not_there(self):
         told(begin([1, 1]))
@@ -77,7 +91,13 @@ class Handed(unittest.TestCase):
     bears = [1, 2, 0, 3, 1]
 
     def leap_calls(self, leap):
-        return [most(leap), narrowest(leap), fewest(leap), plan(leap, 1), go(leap, [])]
+        return [
+            most(leap), narrowest(leap), fewest(leap), plan(leap, 1), go(leap, []),
+            cross(leap, 1), mend(leap, 1), do(leap, 1),
+        ]
+
+    def people_calls(self, leap, people):
+        return [plan(leap, people), cross(leap, people), mend(leap, people), do(leap, people)]
 
     def test_a_leap_that_is_not_1_to_12_is_refused(self):
         for leap in (0, 13, 14, 20):
@@ -91,8 +111,13 @@ class Handed(unittest.TestCase):
 
     def test_people_that_are_not_1_to_20_are_refused(self):
         for people in (0, 21, 22, 40):
-            self.assertEqual(on(self.bears, plan(2, people)), [-1])
-            self.assertEqual(on(self.bears, plan(12, people)), [-1])
+            for call in self.people_calls(2, people) + self.people_calls(12, people):
+                self.assertEqual(on(self.bears, call), [-1])
+
+    def test_1_and_20_people_are_not_refused_so(self):
+        for people in (1, 20):
+            for call in self.people_calls(2, people) + self.people_calls(12, people):
+                self.assertNotEqual(on(self.bears, call), [-1])
 
     def test_1_counts_ahead_of_8_6_and_7(self):
         self.assertEqual(on([0], most(13)), [-1])

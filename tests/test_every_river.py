@@ -1,10 +1,10 @@
-"""Points 2 to 6 on every small river, against all paths there are."""
+"""Points 2 to 6, 9 and 10 on every small river, against all paths there are."""
 
 import functools
 import itertools
 import unittest
 
-from lines import begin, fewest, go, most, narrowest, on, plan, seen, told
+from lines import begin, do, fewest, go, left, mend, most, narrowest, on, plan, seen, told
 
 
 def is_path(path, far, leap):
@@ -63,6 +63,18 @@ def rivers():
             yield bears
 
 
+def fewest_laid(bears, leap):
+    """For each number of people the fewest steps with which so many can get over, by trying each way to lay them."""
+    needed = {}
+    for mended in itertools.product(*(range(borne, 6) for borne in bears)):
+        many = how_many(mended, leap)
+        needed[many] = min(needed.get(many, 5 * len(bears)), sum(mended) - sum(bears))
+    return {
+        people: min(steps for many, steps in needed.items() if many >= people)
+        for people in range(1, max(needed) + 1)
+    }
+
+
 class EveryRiver(unittest.TestCase):
     def test_most_and_narrowest(self):
         for bears in rivers():
@@ -112,6 +124,22 @@ class EveryRiver(unittest.TestCase):
                     else:
                         self.assertIn(answer[0], (-6, -7))
                         self.assertEqual(len(answer), 2)
+
+    def test_mend_and_do(self):
+        small = [bears for places in (1, 2, 3) for bears in itertools.product((0, 1, 3, 5), repeat=places)]
+        for bears in small + list(itertools.product((0, 2, 5), repeat=4)):
+            for leap in range(1, len(bears) + 1):
+                needed = fewest_laid(bears, leap)
+                for people in range(1, 21):
+                    answer = on(bears, mend(leap, people))
+                    if people not in needed:
+                        self.assertEqual(answer, [-6], (bears, leap, people))
+                        self.assertEqual(on(bears, do(leap, people)), [-6])
+                        continue
+                    self.assertEqual(answer[0], needed[people], (bears, leap, people))
+                    self.assertEqual(sum(answer[1:]), needed[people])
+                    self.assertEqual(on(bears, do(leap, people)), [needed[people]])
+                    self.assertGreaterEqual(how_many(tuple(left(begin(bears), do(leap, people))), leap), people)
 
 
 if __name__ == "__main__":

@@ -2,7 +2,7 @@
 
 import unittest
 
-from lines import begin, go, most, narrowest, on, seen, told
+from lines import begin, go, left, looked, most, narrowest, on, seen, told
 
 ORDINARY = [1, 2, 0, 3, 1]
 
@@ -25,7 +25,7 @@ class Taken(unittest.TestCase):
 
     def test_each_stone_on_it_bears_one_less(self):
         self.assertEqual(seen(begin(ORDINARY), go(2, [2, 4])), seen(begin([1, 1, 0, 2, 1])))
-        self.assertEqual(seen(begin([5] * 11), go(5, [5, 10])), seen(begin([5, 5, 5, 5, 4, 5, 5, 5, 5, 4, 5])))
+        self.assertEqual(left(begin([5] * 11), go(5, [5, 10])), [5, 5, 5, 5, 4, 5, 5, 5, 5, 4, 5])
 
     def test_a_stone_sinks(self):
         calls = [begin([3])] + [go(1, [1])] * 4 + [most(1)]
@@ -84,6 +84,7 @@ class Refused(unittest.TestCase):
         for leap, path in ((2, [2, 3, 4]), (2, [1, 2, 5]), (2, [1, 2]), (3, [1, 2, 2]), (3, [1, 6]), (0, [1])):
             self.assertLess(on(ORDINARY, go(leap, path))[0], 0)
             self.assertEqual(seen(begin(ORDINARY), go(leap, path)), untouched)
+            self.assertEqual(looked(begin(ORDINARY), go(leap, path)), [0, 0, 0, 5] + ORDINARY)
 
 
 if __name__ == "__main__":
